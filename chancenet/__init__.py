@@ -1,0 +1,1 @@
+"""Chances of things that hang together, in whole fractions."""
