@@ -1,11 +1,27 @@
 """The calls that are asked of nets."""
 
-from chancenet.reading import NetRefused, read_net
+from chancenet.asking import AskRefused, read_question
+from chancenet.chances import KnownRefused, chance_of
+from chancenet.reading import NetRefused, codes_of, read_net
 
 MOST_NET_BYTES = 65536
+MOST_ASK_BYTES = 1024
 
+TOO_LONG = -1
 BAD_ARGUMENTS = -2
 BAD_NET = -3
+BAD_ASK = -4
+CANT_BE = -5
+
+
+def sizes_fit(net, ask):
+    return len(net) <= MOST_NET_BYTES and len(ask) <= MOST_ASK_BYTES
+
+
+def told_codes(most, codes):
+    if len(codes) > most:
+        return [TOO_LONG]
+    return [len(codes)] + list(codes)
 
 
 def bn_check(net):
@@ -16,3 +32,18 @@ def bn_check(net):
     except NetRefused:
         return [BAD_NET]
     return [0]
+
+
+def bn_ask(most, net, ask):
+    if not sizes_fit(net, ask):
+        return [BAD_ARGUMENTS]
+    try:
+        things = read_net(net)
+        chance = chance_of(things, read_question(ask, things))
+    except NetRefused:
+        return [BAD_NET]
+    except AskRefused:
+        return [BAD_ASK]
+    except KnownRefused:
+        return [CANT_BE]
+    return told_codes(most, codes_of(chance))

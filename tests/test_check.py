@@ -1,70 +1,17 @@
 """bn_check: which nets are as the document says, and which are refused."""
 
-import builtins
-import io
-import sys
 import unittest
-from contextlib import redirect_stderr, redirect_stdout
-from unittest import mock
 
 from chancenet.nets import bn_check
+from helping import RAIN, Keeping, chain, child, codes, padded
 
 GOOD = [0]
 ARGUMENTS = [-2]
 NET = [-3]
 
-RAIN = (
-    "thing rain : yes no\n"
-    "1 4\n"
-    "thing sprinkler : on off from rain\n"
-    "1 99\n"
-    "40 60\n"
-    "thing grass : wet dry from rain sprinkler\n"
-    "99 1\n"
-    "80 20\n"
-    "90 10\n"
-    "0 100\n"
-)
-
-
-def codes(text):
-    return list(text.encode("latin-1"))
-
 
 def check(text):
     return bn_check(codes(text))
-
-
-def chain(counts):
-    """A net of things without `from`, with as many values each as counts says."""
-    lines = []
-    for place, count in enumerate(counts):
-        lines.append(f"thing t{place} : " + " ".join(f"v{k}" for k in range(count)))
-        lines.append(" ".join(["1"] * count))
-    return "\n".join(lines) + "\n"
-
-
-def child(counts, rows, width=2):
-    """A net whose last thing comes from all the others, with this many lines of weights."""
-    values = " ".join(f"v{k}" for k in range(width))
-    sources = " ".join(f"t{place}" for place in range(len(counts)))
-    row = " ".join(["1"] * width) + "\n"
-    return chain(counts) + f"thing last : {values} from {sources}\n" + row * rows
-
-
-def padded(text, size):
-    """The net with a remark behind it, so that it has just this many bytes."""
-    return text + "#" * (size - len(text))
-
-
-class Frozen(list):
-    """A list that can't be changed."""
-
-    def refuse(self, *args, **kwargs):
-        raise AssertionError("what was handed in is changed")
-
-    append = clear = extend = insert = pop = remove = reverse = sort = refuse
-    __setitem__ = __delitem__ = __iadd__ = __imul__ = refuse
 
 
 class Cases(unittest.TestCase):
@@ -363,57 +310,20 @@ class Sizes(Cases):
             ])
 
 
-class Keeping(Cases):
-    nets = [RAIN, RAIN[:-1], "", "thing a : x y\n0 0", "\0", padded(RAIN, 65536), padded(RAIN, 65537), chain([2] * 21)]
-
-    def test_what_was_handed_in_stays(self):
-        for text in self.nets:
-            net = codes(text)
-            bn_check(net)
-            self.assertEqual(net, codes(text))
-
-    def test_it_is_not_changed_for_a_while_either(self):
-        for text in self.nets:
-            self.assertEqual(bn_check(Frozen(codes(text))), check(text))
-
-    def test_the_same_call_twice(self):
-        first = [check(text) for text in self.nets]
-        self.assertEqual([check(text) for text in self.nets], first)
-        self.assertEqual([check(text) for text in reversed(self.nets)], first[::-1])
-
-    def test_an_answer_that_is_changed_changes_no_other(self):
-        for text in self.nets:
-            answer = check(text)
-            kept = list(answer)
-            answer.append(7)
-            self.assertEqual(check(text), kept)
-
-    def test_it_prints_reads_and_imports_nothing(self):
-        def refuse(*args, **kwargs):
-            raise AssertionError("not to be called")
-
-        nets = [codes(text) for text in self.nets]
-        shown = io.StringIO()
-        with redirect_stdout(shown), redirect_stderr(shown):
-            with mock.patch.object(builtins, "__import__", refuse), mock.patch.object(builtins, "open", refuse), \
-                    mock.patch.object(builtins, "input", refuse):
-                for net in nets:
-                    bn_check(net)
-        self.assertEqual(shown.getvalue(), "")
-
-    def test_long_nets_need_no_deep_calls(self):
-        depth = 0
-        frame = sys._getframe()
-        while frame is not None:
-            depth += 1
-            frame = frame.f_back
-        before = sys.getrecursionlimit()
-        sys.setrecursionlimit(depth + 40)
-        try:
-            answers = [check(RAIN + "\n" * 60000), check(RAIN + "x " * 30000), check(RAIN + "#\n" * 30000)]
-        finally:
-            sys.setrecursionlimit(before)
-        self.assertEqual(answers, [GOOD, NET, GOOD])
+class Kept(Keeping, unittest.TestCase):
+    calls = [(bn_check, [text]) for text in (
+        RAIN,
+        RAIN[:-1],
+        "",
+        "thing a : x y\n0 0",
+        "\0",
+        padded(RAIN, 65536),
+        padded(RAIN, 65537),
+        chain([2] * 21),
+        RAIN + "\n" * 60000,
+        RAIN + "x " * 30000,
+        RAIN + "#\n" * 30000,
+    )]
 
 
 if __name__ == "__main__":
