@@ -57,6 +57,10 @@ def read_facts(words, things):
     return facts
 
 
+def read_known(ask, things):
+    return read_facts(read_words(ask), things)
+
+
 def is_do(word):
     return word == codes_of("do")
 

@@ -72,3 +72,28 @@ def chance_of(things, question):
     if whole == 0:
         raise KnownRefused()
     return chance_text(part, whole)
+
+
+def likeliest_state(things, facts):
+    best = None
+    heaviest = 0
+    # Only a heavier one takes the place: of equals the first in order stays.
+    for state in states_with(things, facts):
+        weight = weight_of(things, state, {})
+        if weight > heaviest:
+            best = state
+            heaviest = weight
+    if best is None:
+        raise KnownRefused()
+    return best
+
+
+def state_codes(things, state):
+    codes = []
+    for thing, choice in zip(things, state):
+        if len(codes) > 0:
+            codes.append(ord(" "))
+        codes.extend(thing.name)
+        codes.append(ord("="))
+        codes.extend(thing.choices[choice])
+    return codes

@@ -1,7 +1,7 @@
 """The calls that are asked of nets."""
 
-from chancenet.asking import AskRefused, read_question
-from chancenet.chances import KnownRefused, chance_of
+from chancenet.asking import AskRefused, read_known, read_question
+from chancenet.chances import KnownRefused, chance_of, likeliest_state, state_codes
 from chancenet.reading import NetRefused, codes_of, read_net
 
 MOST_NET_BYTES = 65536
@@ -47,3 +47,18 @@ def bn_ask(most, net, ask):
     except KnownRefused:
         return [CANT_BE]
     return told_codes(most, codes_of(chance))
+
+
+def bn_best(most, net, known):
+    if not sizes_fit(net, known):
+        return [BAD_ARGUMENTS]
+    try:
+        things = read_net(net)
+        best = likeliest_state(things, read_known(known, things))
+    except NetRefused:
+        return [BAD_NET]
+    except AskRefused:
+        return [BAD_ASK]
+    except KnownRefused:
+        return [CANT_BE]
+    return told_codes(most, state_codes(things, best))
