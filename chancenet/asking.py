@@ -1,7 +1,8 @@
-"""Reading what's asked of a net: its bytes into words, and these into facts.
+"""Reading what's asked of a net: its bytes into words, and these into facts or names.
 
-A fact is kept as two places: that of its thing in the net, and that of its
-value among the thing's own. Facts are a dict from the one to the other.
+A name is kept as the place of its thing in the net. A fact is kept as two
+places: that of its thing, and that of its value among the thing's own. Facts
+are a dict from the one to the other.
 """
 
 from chancenet.reading import BLANK, LAST_PRINTABLE, codes_of, place_of_word, split_at, split_words
@@ -17,6 +18,13 @@ class Question:
         # Those that are done are here too: they hold like the others.
         self.known = known
         self.done = done
+
+
+class Pair:
+    def __init__(self, first, second, names):
+        self.first = first
+        self.second = second
+        self.names = names
 
 
 def read_words(ask):
@@ -82,3 +90,18 @@ def read_question(ask, things):
     done = read_facts(done_words(parts[1]), things)
     known = read_facts([word for word in parts[1] if not is_do(word)], things)
     return Question(wanted, known, done)
+
+
+def read_pair(ask, things):
+    parts = read_parts(ask)
+    if len(parts[0]) != 2:
+        raise AskRefused()
+    places = []
+    for part in parts:
+        places.extend([read_thing(word, things) for word in part])
+    if len(set(places)) != len(places):
+        raise AskRefused()
+    names = {}
+    for place in places[2:]:
+        names[place] = True
+    return Pair(places[0], places[1], names)

@@ -1,8 +1,9 @@
 """The calls that are asked of nets."""
 
-from chancenet.asking import AskRefused, read_known, read_question
+from chancenet.asking import AskRefused, read_known, read_pair, read_question
 from chancenet.chances import KnownRefused, chance_of, likeliest_state, state_codes
 from chancenet.reading import NetRefused, codes_of, read_net
+from chancenet.ways import has_open_way
 
 MOST_NET_BYTES = 65536
 MOST_ASK_BYTES = 1024
@@ -62,3 +63,16 @@ def bn_best(most, net, known):
     except KnownRefused:
         return [CANT_BE]
     return told_codes(most, state_codes(things, best))
+
+
+def bn_apart(net, ask):
+    if not sizes_fit(net, ask):
+        return [BAD_ARGUMENTS]
+    try:
+        things = read_net(net)
+        pair = read_pair(ask, things)
+    except NetRefused:
+        return [BAD_NET]
+    except AskRefused:
+        return [BAD_ASK]
+    return [0] if has_open_way(things, pair.names, pair.first, pair.second) else [1]
