@@ -2,6 +2,7 @@
 
 from chancenet.asking import AskRefused, read_known, read_pair, read_question
 from chancenet.chances import KnownRefused, chance_of, likeliest_state, state_codes
+from chancenet.drawing import draw_state
 from chancenet.reading import NetRefused, codes_of, read_net
 from chancenet.ways import has_open_way
 
@@ -76,3 +77,15 @@ def bn_apart(net, ask):
     except AskRefused:
         return [BAD_ASK]
     return [0] if has_open_way(things, pair.names, pair.first, pair.second) else [1]
+
+
+def bn_draw(numbers, net):
+    if len(net) > MOST_NET_BYTES:
+        return [BAD_ARGUMENTS]
+    try:
+        things = read_net(net)
+    except NetRefused:
+        return [BAD_NET]
+    if len(numbers) != len(things):
+        return [BAD_ARGUMENTS]
+    return [0] + draw_state(things, numbers)

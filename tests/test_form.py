@@ -1,10 +1,13 @@
-"""The package's files keep to the part of Python that the program is written in."""
+"""The package has the functions that are promised, and its files keep to their part of Python."""
 
 import ast
 import builtins
+import inspect
 import re
 import unittest
 from pathlib import Path
+
+from chancenet import nets
 
 PACKAGE = Path(__file__).resolve().parent.parent / "chancenet"
 
@@ -27,6 +30,20 @@ join keys ljust lower lstrip partition pop remove replace reverse rfind rjust rp
 splitlines startswith strip update upper values zfill bit_length
 """.split())
 
+UNUSED = set("""
+register mro elements open input version_info with_traceback add_note format format_map attrgetter breakpoint builtins
+compile copyright credits delattr dir eval exec exit gc getattr globals hasattr help id importlib license locals
+methodcaller os quit setattr super sys type vars chr
+""".split())
+
+CALLS = {
+    "bn_check": ["net"],
+    "bn_ask": ["most", "net", "ask"],
+    "bn_best": ["most", "net", "known"],
+    "bn_apart": ["net", "ask"],
+    "bn_draw": ["numbers", "net"],
+}
+
 WORDS = re.compile(
     r"\b(type|typing|typing_extensions|enum|Enum|IntEnum|StrEnum|Flag|IntFlag|Generic|Protocol|ABC|ABCMeta|namedtuple"
     r"|NamedTuple|TypedDict|TYPE_CHECKING|abstractmethod)\b|dataclass|overload|contextmanager"
@@ -39,6 +56,12 @@ def sources():
 
 def nodes():
     return [(name, node) for name, text in sources() for node in ast.walk(ast.parse(text))]
+
+
+class Interface(unittest.TestCase):
+    def test_names_and_arguments(self):
+        for name, arguments in CALLS.items():
+            self.assertEqual(list(inspect.signature(getattr(nets, name)).parameters), arguments, name)
 
 
 class Form(unittest.TestCase):
@@ -80,6 +103,37 @@ class Form(unittest.TestCase):
             if isinstance(node, ast.ImportFrom):
                 self.assertEqual(node.level, 0, name)
                 self.assertTrue(node.module.startswith("chancenet."), name)
+
+    def test_imports_are_from_where_a_name_is_defined(self):
+        defined = {}
+        drawn = {}
+        for name, text in sources():
+            module = "chancenet." + name[:-3]
+            body = ast.parse(text).body
+            defined[module] = [node.name for node in body if isinstance(node, (ast.FunctionDef, ast.ClassDef))]
+            defined[module] += [node.targets[0].id for node in body if isinstance(node, ast.Assign)]
+            drawn[module] = [(node.module, alias.name) for node in body if isinstance(node, ast.ImportFrom)
+                             for alias in node.names]
+            self.assertEqual(len(set(defined[module])), len(defined[module]), name)
+        for module, pairs in drawn.items():
+            for source, name in pairs:
+                self.assertIn(name, defined[source], module)
+        while drawn:
+            ready = [module for module in drawn if not any(source in drawn for source, name in drawn[module])]
+            self.assertNotEqual(ready, [], "files draw from one another")
+            for module in ready:
+                del drawn[module]
+
+    def test_names_that_are_not_used(self):
+        for name, node in nodes():
+            for word in (getattr(node, "id", ""), getattr(node, "attr", ""), getattr(node, "arg", "")):
+                self.assertNotIn(word, UNUSED, (name, getattr(node, "lineno", 0)))
+
+    def test_errors_are_the_programs_own(self):
+        own = [node.name for name, node in nodes() if isinstance(node, ast.ClassDef)]
+        for name, node in nodes():
+            if isinstance(node, ast.ExceptHandler):
+                self.assertIn(getattr(node.type, "id", None), own, (name, node.lineno))
 
     def test_names(self):
         for name, node in nodes():
