@@ -76,10 +76,8 @@ def is_do(word):
 def done_words(words):
     if is_do(words[-1]):
         raise AskRefused()
-    done = [word for word, ahead in zip(words[1:], words) if is_do(ahead)]
-    if any([is_do(word) for word in done]):
-        raise AskRefused()
-    return done
+    # A do behind another is among these, and is refused when read as a fact.
+    return [word for word, ahead in zip(words[1:], words) if is_do(ahead)]
 
 
 def read_question(ask, things):
